@@ -1,0 +1,1 @@
+"""Takers beside a belt, each takes every so-manieth piece that still comes by."""
