@@ -1,8 +1,9 @@
 """The interface: the refusals, and where each name is defined."""
 
+import inspect
 import unittest
 
-from takenth import errors, rounds, rows
+from takenth import belts, errors, orders, pairs, rounds, rows, seen
 
 OF_A_TEXT = ("NoRow", "NoNumber", "NoTaker", "NoSeen", "NoCounts", "NoPlace", "Unlike", "Full")
 ALL = OF_A_TEXT + ("TooMany",)
@@ -44,17 +45,38 @@ class Refusals(unittest.TestCase):
         self.assertEqual((one.most, other.most), (6, 7))
 
 
+LISTED = (
+    (rows, (("is_row", "thing"), ("who", "row piece"), ("taken", "row number"), ("piece_of", "row taker number"))),
+    (rounds, (("round_of", "row"), ("parts", "row"))),
+    (seen, (("fits", "seen many"), ("known_by", "row"))),
+    (pairs, (("parted", "one other"),)),
+    (orders, (("orders_for", "row number counts"),)),
+)
+OF_A_BELT = (
+    ("go_by", "number"), ("come", "taker"), ("leave", "place"), ("change", "place other"),
+    ("row", ""), ("gone", ""), ("left_over", ""), ("__len__", ""), ("__eq__", "other"),
+)
+
+
 class Defined(unittest.TestCase):
 
-    def test_in_the_file_that_lists_it(self):
-        listed = (
-            (errors, ("TakeError",) + ALL),
-            (rows, ("is_row", "who", "taken", "piece_of")),
-            (rounds, ("round_of", "parts")),
-        )
-        for module, names in listed:
-            for name in names:
-                self.assertEqual(getattr(module, name).__module__, module.__name__, name)
+    def test_refusals(self):
+        for name in ("TakeError",) + ALL:
+            self.assertEqual(getattr(errors, name).__module__, "takenth.errors", name)
+
+    def test_functions_in_the_file_that_lists_them(self):
+        for module, names in LISTED:
+            for name, arguments in names:
+                function = getattr(module, name)
+                self.assertEqual(function.__module__, module.__name__, name)
+                self.assertEqual(list(inspect.signature(function).parameters), arguments.split(), name)
+
+    def test_belt_and_its_methods(self):
+        self.assertEqual(belts.Belt.__module__, "takenth.belts")
+        self.assertEqual(list(inspect.signature(belts.Belt).parameters), [])
+        for name, arguments in OF_A_BELT:
+            method = vars(belts.Belt)[name]
+            self.assertEqual(list(inspect.signature(method).parameters), ["self"] + arguments.split(), name)
 
 
 if __name__ == "__main__":
