@@ -5,7 +5,7 @@ import math
 import random
 import unittest
 
-from by_piece import all_short_rows, row_of, takers_of
+from by_piece import Gone, all_short_rows, row_of, takers_of
 from takenth.errors import NoNumber, NoSeen
 from takenth.rows import who
 from takenth.seen import fits, known_by
@@ -38,10 +38,11 @@ def fits_by_piece(seen, many):
 def known_by_piece(row):
     """How long one must look, all takers that still fit at each place gone on with each piece."""
     left = [{taker: taker[1] for taker in ALL_TAKERS} for _ in row]
+    gone = Gone(row)
     pieces = 0
     while any(len(counts) > 1 for counts in left):
         pieces += 1
-        taker = who(row, pieces)
+        taker = gone.next_piece()
         for place, counts in enumerate(left):
             if taker is not None and taker < place:
                 break
